@@ -1,0 +1,1 @@
+"""Stepblocks: block diagrams compiled one at a time."""

@@ -1,0 +1,80 @@
+"""The examples of the document for what has landed, as they stand there."""
+
+import unittest
+
+EXAMPLES = [
+    r"""
+>>> from stepblocks.blocks import Primitive
+>>> [Primitive.parse("sub").compute((3, 5)), Primitive.parse("delay 7").interface]
+[(4294967294,), (('in',), ('out',), ((('out',), ()),))]
+""",
+    r"""
+>>> from stepblocks.blocks import Diagram
+>>> text = "block counter(up; count total)\n  part old = delay 0\n  part sum = add\n  old.in <- sum.out\n  sum.a <- old.out\n  sum.b <- up\n  count <- old.out\n  total <- sum.out\nend"
+>>> diagram = Diagram.parse(text)
+>>> [diagram.parts, diagram.wires[0], str(diagram) == text]
+[(('old', 'delay 0'), ('sum', 'add')), (('old', 'in'), ('sum', 'out')), True]
+""",
+    r"""
+>>> from stepblocks.blocks import Diagram
+>>> Diagram.parse("block one(a; b)\n  b <- a\n  b <- a\nend")
+raises InvalidText(row=2)
+""",
+    r"""
+>>> from stepblocks.blocks import Diagram
+>>> from stepblocks.compiling import compile_diagram
+>>> text = "block counter(up; count total)\n  part old = delay 0\n  part sum = add\n  old.in <- sum.out\n  sum.a <- old.out\n  sum.b <- up\n  count <- old.out\n  total <- sum.out\nend"
+>>> compiled = compile_diagram(Diagram.parse(text), {})
+>>> [compiled.profile, compiled.steps[0], compiled.end[1][0]]
+[((('count',), ()), (('total',), ('up',))), ((('old', 0, ()),), (('count', ('old', 'out')),)), ('old', 'in', ('sum', 'out'))]
+""",
+    r"""
+>>> from stepblocks.blocks import Diagram
+>>> from stepblocks.compiling import compile_diagram
+>>> diagram = Diagram.parse("block loop(; o)\n  part w = wire\n  w.i <- w.o\n  o <- w.o\nend")
+>>> compile_diagram(diagram, {"wire": (("i",), ("o",), ((("o",), ("i",)),))})
+raises Cycle(name='loop', cycle=[('w', 0)])
+""",
+]
+
+
+def answer_of(statements, question):
+    """Return what the document would print for the question behind the statements."""
+    names = {}
+    for statement in statements:
+        exec(statement, names)
+    try:
+        return repr(eval(question, names))
+    except ValueError as error:
+        told = ", ".join(f"{name}={value!r}" for name, value in vars(error).items())
+        return f"raises {error.__class__.__name__}({told})"
+
+
+class ExamplesTest(unittest.TestCase):
+    def test_examples(self):
+        for example in EXAMPLES:
+            *lines, expected = example.strip().split("\n")
+            self.assertTrue(all(line.startswith(">>> ") for line in lines))
+            *statements, question = [line[4:] for line in lines]
+            self.assertEqual(answer_of(statements, question), expected)
+
+    def test_example_of_point_seven(self):
+        from stepblocks.blocks import Diagram
+        text = """
+block counter(up; count total)
+  part old = delay 0
+  part sum = add
+  old.in <- sum.out
+  sum.a <- old.out
+  sum.b <- up
+  count <- old.out
+  total <- sum.out
+end
+"""
+        self.assertEqual(str(Diagram.parse(text.strip("\n"))), text.strip("\n"))
+        self.assertEqual(Diagram.parse("block one(; out)\nend").outputs, ("out",))
+        self.assertEqual(Diagram.parse("block none(;)\nend").outputs, ())
+
+
+if __name__ == "__main__":
+    unittest.main()

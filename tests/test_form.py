@@ -1,0 +1,181 @@
+"""The form of the files of the package: those rules of LANGUAGE.md that a short program can check."""
+
+import ast
+import builtins
+import pathlib
+import tokenize
+import unittest
+
+PACKAGE = pathlib.Path(__file__).resolve().parent.parent / "stepblocks"
+ALLOWED_BUILTINS = set("""len range enumerate zip min max sum abs sorted reversed int str bool list tuple dict set
+isinstance ord repr any all divmod pow Exception ValueError TypeError KeyError IndexError LookupError iter next map
+ZeroDivisionError ArithmeticError OverflowError RuntimeError NotImplementedError AttributeError StopIteration type
+NotImplemented property staticmethod classmethod super object""".split())
+METHODS = set("""append clear copy count endswith extend find get index insert isalnum isalpha isdigit islower isspace
+isupper items join keys ljust lower lstrip partition pop remove replace reverse rfind rjust rpartition rsplit rstrip
+setdefault split splitlines startswith strip update upper values zfill bit_length title capitalize swapcase casefold
+center expandtabs removeprefix removesuffix rindex isascii isdecimal isnumeric istitle isidentifier isprintable
+add discard appendleft popleft rotate""".split())
+SPECIAL_METHODS = set("""__init__ __eq__ __repr__ __str__ __len__ __enter__ __exit__ __call__ __iter__ __lt__ __le__
+__gt__ __ge__ __ne__ __contains__ __getitem__ __setitem__ __bool__""".split())
+BARRED_NAMES = set("""register mro elements open input law version_info with_traceback add_note attrgetter breakpoint
+builtins compile copyright credits delattr dir eval exec exit gc globals help id importlib license locals methodcaller
+os quit vars sys""".split())
+BARRED_WORDS = r"\b(typing|typing_extensions|enum|Enum|IntEnum|StrEnum|Flag|IntFlag|Generic|Protocol|ABC|ABCMeta" \
+               r"|namedtuple|NamedTuple|TypedDict|TYPE_CHECKING|abstractmethod)\b|dataclass|overload|contextmanager"
+LIBRARY = {"heapq", "math", "itertools", "collections"}
+BARRED_NODES = (ast.AsyncFunctionDef, ast.AsyncFor, ast.AsyncWith, ast.Await, ast.Global, ast.Div, ast.MatMult,
+                ast.TryStar, ast.Import)
+
+
+def files():
+    return sorted(PACKAGE.rglob("*"))
+
+
+def trees():
+    return [(path, ast.parse(path.read_text("ascii"))) for path in files() if path.suffix == ".py"]
+
+
+def bound_names(tree):
+    for node in ast.walk(tree):
+        if isinstance(node, (ast.FunctionDef, ast.ClassDef)):
+            yield node.name, node
+        elif isinstance(node, ast.Name) and not isinstance(node.ctx, ast.Load):
+            yield node.id, node
+        elif isinstance(node, ast.arg):
+            yield node.arg, node
+        elif isinstance(node, ast.alias):
+            yield node.asname or node.name, node
+
+
+class FilesTest(unittest.TestCase):
+    def test_folder_and_names(self):
+        for path in files():
+            if "__pycache__" in path.parts:
+                continue
+            self.assertEqual(path.suffix, ".py", path)
+            self.assertRegex(path.stem, "^[a-z_0-9]+$")
+        self.assertTrue((PACKAGE / "__init__.py").is_file())
+
+    def test_sizes_and_signs(self):
+        for path, tree in trees():
+            lines = path.read_text("ascii").split("\n")
+            self.assertLessEqual(len(lines), 399, path)
+            for line in lines:
+                self.assertLessEqual(len(line), 120, line)
+                self.assertTrue(all(" " <= sign <= "~" for sign in line), line)
+            for node in ast.walk(tree):
+                if isinstance(node, ast.FunctionDef):
+                    self.assertLessEqual(node.end_lineno - node.lineno + 1, 40, (path, node.name))
+
+    def test_words(self):
+        for path in files():
+            if path.suffix != ".py":
+                continue
+            with tokenize.open(path) as source:
+                for token in tokenize.generate_tokens(source.readline):
+                    text = token.string
+                    if token.type != tokenize.COMMENT and not text.startswith('"""'):
+                        self.assertNotRegex(text, BARRED_WORDS, path)
+                        if token.type == tokenize.STRING:
+                            self.assertNotIn("%", text, path)
+
+
+class StatementsTest(unittest.TestCase):
+    def test_module_level(self):
+        for path, tree in trees():
+            names = []
+            for number, node in enumerate(tree.body):
+                if isinstance(node, ast.Expr):
+                    self.assertTrue(number == 0 and isinstance(node.value.value, str), path)
+                elif isinstance(node, ast.Assign):
+                    self.assertEqual([type(target) for target in node.targets], [ast.Name], path)
+                    names.append(node.targets[0].id)
+                    self.check_plain(node.value)
+                elif isinstance(node, ast.ImportFrom):
+                    names += [alias.name for alias in node.names]
+                else:
+                    self.assertIsInstance(node, (ast.FunctionDef, ast.ClassDef), path)
+                    names.append(node.name)
+            self.assertEqual(len(set(names)), len(names), path)
+
+    def check_plain(self, value):
+        """A table holds no lists and no dicts."""
+        for node in ast.walk(value):
+            self.assertIsInstance(node, (ast.Constant, ast.Name, ast.Tuple, ast.List, ast.Dict, ast.expr_context))
+            if node is not value:
+                self.assertNotIsInstance(node, (ast.List, ast.Dict))
+
+    def test_imports(self):
+        known = {f"stepblocks.{path.stem}": {name for name, _ in bound_names(ast.Module(
+            [node for node in tree.body if not isinstance(node, ast.ImportFrom)], []))} for path, tree in trees()}
+        follows = {}
+        for path, tree in trees():
+            here = f"stepblocks.{path.stem}"
+            follows[here] = set()
+            for node in ast.walk(tree):
+                if isinstance(node, ast.ImportFrom) and node.module not in LIBRARY:
+                    self.assertIn(node, tree.body)
+                    self.assertEqual(node.level, 0)
+                    self.assertIn(node.module, known, path)
+                    self.assertTrue({alias.name for alias in node.names} <= known[node.module], path)
+                    follows[here].add(node.module)
+        while follows:
+            free = [name for name, used in follows.items() if not used & set(follows)]
+            self.assertTrue(free, f"files import from each other: {sorted(follows)}")
+            for name in free:
+                del follows[name]
+
+    def test_statements_and_expressions(self):
+        for path, tree in trees():
+            for node in ast.walk(tree):
+                where = (path.name, getattr(node, "lineno", 0))
+                self.assertNotIsInstance(node, BARRED_NODES, where)
+                if isinstance(node, ast.Constant):
+                    self.assertNotIsInstance(node.value, (float, complex), where)
+                if isinstance(node, (ast.FunctionDef, ast.ClassDef)):
+                    for decorator in node.decorator_list:
+                        self.assertIn(ast.unparse(decorator).split(".")[-1],
+                                      ("property", "setter", "staticmethod", "classmethod"), where)
+                if isinstance(node, ast.ExceptHandler):
+                    self.assertIsNotNone(node.type, where)
+                if isinstance(node, ast.Compare) and any(isinstance(op, (ast.Is, ast.IsNot)) for op in node.ops):
+                    self.assertIsInstance(node.comparators[0], ast.Constant, where)
+                if isinstance(node, ast.Call) and isinstance(node.func, ast.Name):
+                    self.check_call(node, where)
+
+    def check_call(self, node, where):
+        """Where a class has __eq__, any, all and the like take lists instead of generator expressions."""
+        if node.func.id in ("any", "all", "min", "max", "sum", "sorted"):
+            self.assertFalse([a for a in node.args if isinstance(a, ast.GeneratorExp)], where)
+
+    def test_names(self):
+        for path, tree in trees():
+            own_methods = {name for _, other in trees() for name, node in bound_names(other)
+                           if isinstance(node, ast.FunctionDef)}
+            for name, node in bound_names(tree):
+                where = (path.name, name)
+                self.assertNotIn(name, BARRED_NAMES, where)
+                if name.startswith("__"):
+                    self.assertIn(name, SPECIAL_METHODS, where)
+                self.assertFalse(hasattr(builtins, name) and name not in SPECIAL_METHODS, where)
+            bound = {name for name, _ in bound_names(tree)}
+            for node in ast.walk(tree):
+                if isinstance(node, ast.Name) and node.id not in bound:
+                    self.assertIn(node.id, ALLOWED_BUILTINS, path)
+                if isinstance(node, ast.Call) and isinstance(node.func, ast.Attribute):
+                    self.assertIn(node.func.attr, METHODS | own_methods, path)
+
+    def test_methods_of_the_interface_stand_in_their_classes(self):
+        listed = {"Primitive": {"parse", "interface", "compute", "__str__"}, "Diagram": {"parse", "__str__", "__eq__"},
+                  "Compiled": {"interface"}}
+        for _, tree in trees():
+            for node in tree.body:
+                if isinstance(node, ast.ClassDef) and node.name in listed:
+                    has = {inner.name for inner in node.body if isinstance(inner, ast.FunctionDef)}
+                    self.assertTrue(listed.pop(node.name) <= has, node.name)
+        self.assertEqual(listed, {})
+
+
+if __name__ == "__main__":
+    unittest.main()
