@@ -4,19 +4,11 @@ import copy
 import unittest
 
 import oracle
+from samples import COUNTER
 from stepblocks.blocks import Diagram
 from stepblocks.compiling import Compiled, compile_diagram, is_interface
 from stepblocks.errors import BadDiagram, BadInterface, Cycle, UnknownBlock
 
-COUNTER = """block counter(up; count total)
-  part old = delay 0
-  part sum = add
-  old.in <- sum.out
-  sum.a <- old.out
-  sum.b <- up
-  count <- old.out
-  total <- sum.out
-end"""
 WIRE = (("i",), ("o",), ((("o",), ("i",)),))
 COUNTED = (("up",), ("count", "total"), ((("count",), ()), (("total",), ("up",))))
 

@@ -4,19 +4,11 @@ import random
 import unittest
 from unittest import mock
 
+from samples import COUNTER
 from stepblocks.blocks import Block, Diagram, Primitive
 from stepblocks.errors import BlockError, InvalidText
 from textcheck import wrong_row
 
-COUNTER = """block counter(up; count total)
-  part old = delay 0
-  part sum = add
-  old.in <- sum.out
-  sum.a <- old.out
-  sum.b <- up
-  count <- old.out
-  total <- sum.out
-end"""
 TRIPLE = """block triple(x y; p q r)
   part z = two
   part a = pick
