@@ -114,6 +114,11 @@ class Diagram(Block):
                 raise InvalidText(number)
         if not reader.is_done:
             raise InvalidText(len(rows))
+        return cls.of_reader(reader)
+
+    @classmethod
+    def of_reader(cls, reader):
+        """Return the diagram that a reader has read to its end."""
         parts = [(part, reader.parts[part]) for part in reader.parts]
         return cls(reader.name, reader.inputs, reader.outputs, parts, reader.wires)
 

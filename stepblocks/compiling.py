@@ -2,7 +2,8 @@
 
 from stepblocks.blocks import Diagram, Primitive
 from stepblocks.errors import BadDiagram, BadInterface, Cycle, UnknownBlock
-from stepblocks.texts import is_name, is_primitive
+from stepblocks.graphs import find_ring
+from stepblocks.texts import are_port_names, is_primitive
 
 
 def is_interface(value):
@@ -10,23 +11,13 @@ def is_interface(value):
     if not isinstance(value, tuple) or len(value) != 3:
         return False
     inputs, outputs, profile = value
-    if not _are_ports(inputs) or not _are_ports(outputs) or not isinstance(profile, tuple):
-        return False
-    if len(set(inputs + outputs)) != len(inputs) + len(outputs):
+    if not are_port_names(inputs, outputs, Diagram.MAX_PORTS) or not isinstance(profile, tuple):
         return False
     if not all([_is_step_function(step, inputs, outputs) for step in profile]):
         return False
     firsts = [outputs.index(names[0]) for names, _ in profile]
     named = [name for names, _ in profile for name in names]
     return firsts == sorted(firsts) and sorted(named) == sorted(outputs)
-
-
-def _are_names(value):
-    return isinstance(value, tuple) and all([is_name(name) for name in value])
-
-
-def _are_ports(value):
-    return _are_names(value) and len(value) <= Diagram.MAX_PORTS
 
 
 def _is_step_function(value, inputs, outputs):
@@ -38,7 +29,7 @@ def _is_step_function(value, inputs, outputs):
 
 def _is_selection(value, names):
     """Tell whether a value is a tuple of some of the names, in their order."""
-    return _are_names(value) and list(value) == [name for name in names if name in value]
+    return isinstance(value, tuple) and list(value) == [name for name in names if name in value]
 
 
 class Compiled:
@@ -57,10 +48,15 @@ class Compiled:
         return (self.inputs, self.outputs, self.profile)
 
 
+def needs_by_output(profile):
+    """Return a dict from the outputs to the inputs that they need, for a profile."""
+    return {output: needs for outputs, needs in profile for output in outputs}
+
+
 def compile_diagram(diagram, interfaces):
     """Return the Compiled of a diagram, from a dict of the interfaces of other diagrams."""
     faces = _part_interfaces(diagram, interfaces)
-    _check_wires(diagram, faces)
+    check_wires(diagram, faces)
     sources = {target: source for target, source in diagram.wires}
     order, reach = _order_calls(diagram, faces, _list_calls(diagram, faces, sources))
     profile = _make_profile(diagram, sources, reach)
@@ -88,8 +84,11 @@ def _block_interface(block, interfaces):
     return interfaces[block]
 
 
-def _check_wires(diagram, faces):
-    """Raise BadDiagram if a wire leads from or to no port, or else if a target has no wire."""
+def check_wires(diagram, faces):
+    """Raise BadDiagram if a wire leads from or to no port, or else if a target has no wire.
+
+    faces is a dict from the name of each part to a tuple that begins with its inputs and its outputs.
+    """
     targets = {(part, name): True for part in faces for name in faces[part][0]}
     sources = {(part, name): True for part in faces for name in faces[part][1]}
     targets.update({("", name): True for name in diagram.outputs})
@@ -159,12 +158,8 @@ def _find_cycle(left, faces, reach):
     for part, number, arguments in left:
         missing = [source for _, source in arguments if source not in reach]
         waits_for[(part, number)] = makers[missing[0]]
-    walk = [(left[0][0], left[0][1])]
-    while waits_for[walk[-1]] not in walk:
-        walk.append(waits_for[walk[-1]])
-    begin = walk.index(waits_for[walk[-1]])
     # The walk goes against the edges.
-    return list(reversed(walk[begin:]))
+    return list(reversed(find_ring((left[0][0], left[0][1]), waits_for)))
 
 
 def _make_profile(diagram, sources, reach):

@@ -1,4 +1,4 @@
-"""The texts of names, values and primitives, and the rows of diagrams (points 4 to 7)."""
+"""Names, values and primitives and their texts, and the rows of diagrams (points 3 to 7)."""
 
 LETTERS = "abcdefghijklmnopqrstuvwxyz"
 DIGITS = "0123456789"
@@ -27,6 +27,24 @@ def is_name(value):
     if not isinstance(value, str) or not 1 <= len(value) <= MOST_LETTERS:
         return False
     return value not in RESERVED_WORDS and all([letter in LETTERS for letter in value])
+
+
+def are_port_names(inputs, outputs, most):
+    """Tell whether two values, which may be any values, are tuples of names, at most so many each, all different."""
+    for value in (inputs, outputs):
+        if not isinstance(value, tuple) or len(value) > most or not all([is_name(name) for name in value]):
+            return False
+    return len(set(inputs + outputs)) == len(inputs) + len(outputs)
+
+
+def is_integer(value):
+    """Tell whether a value, which may be any value, is an integer."""
+    return isinstance(value, int) and not isinstance(value, bool)
+
+
+def is_value(value):
+    """Tell whether a value, which may be any value, is one that ports can have."""
+    return is_integer(value) and 0 <= value < MODULUS
 
 
 def is_diagram_name(text):

@@ -35,6 +35,17 @@ raises InvalidText(row=2)
 >>> compile_diagram(diagram, {"wire": (("i",), ("o",), ((("o",), ("i",)),))})
 raises Cycle(name='loop', cycle=[('w', 0)])
 """,
+    r"""
+>>> from stepblocks.blocks import Diagram
+>>> from stepblocks.library import Library
+>>> library = Library()
+>>> text = "block counter(up; count total)\n  part old = delay 0\n  part sum = add\n  old.in <- sum.out\n  sum.a <- old.out\n  sum.b <- up\n  count <- old.out\n  total <- sum.out\nend"
+>>> user = "block user(; x)\n  part one = counter\n  one.up <- one.count\n  x <- one.total\nend"
+>>> first = library.change([Diagram.parse(user), Diagram.parse(text)], [])
+>>> second = library.change([Diagram.parse(text.replace("delay 0", "delay 1"))], [])
+>>> [first, second, library.names]
+[('counter', 'user'), ('counter',), ('counter', 'user')]
+""",
 ]
 
 

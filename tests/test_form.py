@@ -23,6 +23,9 @@ builtins compile copyright credits delattr dir eval exec exit gc globals help id
 os quit vars sys""".split())
 BARRED_WORDS = r"\b(typing|typing_extensions|enum|Enum|IntEnum|StrEnum|Flag|IntFlag|Generic|Protocol|ABC|ABCMeta" \
                r"|namedtuple|NamedTuple|TypedDict|TYPE_CHECKING|abstractmethod)\b|dataclass|overload|contextmanager"
+BARRED_ATTRIBUTES = set("""items keys values pop update append clear extend insert remove reverse setdefault sort args
+encode decode hex fromhex format format_map mro as_integer_ratio bit_count conjugate from_bytes is_integer
+to_bytes""".split())
 LIBRARY = {"heapq", "math", "itertools", "collections"}
 BARRED_NODES = (ast.AsyncFunctionDef, ast.AsyncFor, ast.AsyncWith, ast.Await, ast.Global, ast.Div, ast.MatMult,
                 ast.TryStar, ast.Import)
@@ -168,13 +171,84 @@ class StatementsTest(unittest.TestCase):
 
     def test_methods_of_the_interface_stand_in_their_classes(self):
         listed = {"Primitive": {"parse", "interface", "compute", "__str__"}, "Diagram": {"parse", "__str__", "__eq__"},
-                  "Compiled": {"interface"}}
+                  "Compiled": {"interface"},
+                  "Library": {"parse", "__str__", "names", "rebuilt", "diagram", "compiled", "build_order", "draft",
+                              "change"},
+                  "Draft": {"put", "drop", "commit", "close", "__enter__", "__exit__"}}
         for _, tree in trees():
             for node in tree.body:
                 if isinstance(node, ast.ClassDef) and node.name in listed:
                     has = {inner.name for inner in node.body if isinstance(inner, ast.FunctionDef)}
                     self.assertTrue(listed.pop(node.name) <= has, node.name)
         self.assertEqual(listed, {})
+
+    def test_local_names_hide_nothing(self):
+        for path, tree in trees():
+            outer = {name for name, node in bound_names(tree) if isinstance(node, (ast.ClassDef, ast.alias))}
+            for node in ast.walk(tree):
+                name = node.arg if isinstance(node, ast.arg) else getattr(node, "id", None)
+                if isinstance(node, ast.arg) or isinstance(node, ast.Name) and not isinstance(node.ctx, ast.Load):
+                    self.assertNotIn(name, outer, path)
+
+    def test_no_generator_expressions_and_no_sorting_in_place(self):
+        for path, tree in trees():
+            for node in ast.walk(tree):
+                self.assertNotIsInstance(node, ast.GeneratorExp, path)
+                if isinstance(node, ast.Attribute):
+                    self.assertNotEqual(node.attr, "sort", path)
+
+    def test_names_of_generators_are_their_own(self):
+        functions = [node for _, tree in trees() for node in ast.walk(tree) if isinstance(node, ast.FunctionDef)]
+        names = [node.name for node in functions]
+        for node in functions:
+            if any(isinstance(inner, (ast.Yield, ast.YieldFrom)) for inner in ast.walk(node)):
+                self.assertEqual(names.count(node.name), 1, node.name)
+                self.assertNotIn(node.name, METHODS)
+
+
+def is_property(node):
+    return isinstance(node, ast.FunctionDef) and [ast.unparse(one) for one in node.decorator_list] == ["property"]
+
+
+class AttributesTest(unittest.TestCase):
+    def stored(self, tree):
+        """Return the names of all attributes that are assigned in a tree."""
+        return {node.attr for node in ast.walk(tree)
+                if isinstance(node, ast.Attribute) and isinstance(node.ctx, ast.Store)}
+
+    def test_names_of_attributes(self):
+        for path, tree in trees():
+            self.assertFalse(self.stored(tree) & BARRED_ATTRIBUTES, path)
+
+    def test_properties_are_not_assigned_and_change_nothing(self):
+        functions = [node for _, tree in trees() for node in ast.walk(tree) if isinstance(node, ast.FunctionDef)]
+        properties = [node for node in functions if is_property(node)]
+        names = {node.name for node in properties}
+        for path, tree in trees():
+            self.assertFalse(self.stored(tree) & names, path)
+        for node in functions:
+            self.assertTrue(node.name not in names or node in properties, node.name)
+        for node in properties:
+            self.assertFalse([inner for inner in ast.walk(node) if isinstance(inner, (ast.Attribute, ast.Subscript))
+                              and not isinstance(inner.ctx, ast.Load)], node.name)
+
+    def test_no_method_is_an_attribute_or_defined_twice(self):
+        for path, tree in trees():
+            for node in tree.body:
+                if isinstance(node, ast.ClassDef):
+                    methods = [inner.name for inner in node.body if isinstance(inner, ast.FunctionDef)]
+                    self.assertEqual(len(set(methods)), len(methods), node.name)
+                    self.assertFalse(set(methods) & self.stored(node), node.name)
+
+    def test_attributes_that_are_read_are_somewhere(self):
+        stored, others = set(), set(METHODS)
+        for _, tree in trees():
+            stored |= self.stored(tree)
+            others |= {name for name, _ in bound_names(tree)}
+        for path, tree in trees():
+            for node in ast.walk(tree):
+                if isinstance(node, ast.Attribute):
+                    self.assertIn(node.attr, stored | others | SPECIAL_METHODS, path)
 
 
 if __name__ == "__main__":

@@ -1,0 +1,67 @@
+"""The names of the interface: each stands in its file, with the arguments that the document shows."""
+
+import importlib
+import inspect
+import unittest
+
+FUNCTIONS = {
+    "compiling": {"is_interface": "(value)", "compile_diagram": "(diagram, interfaces)"},
+    "ports": {
+        "count_parts": "(library, name)", "port_order": "(library, name)", "is_port_order": "(library, name, value)",
+        "cone": "(library, name, output)", "is_cone": "(library, name, output, value)",
+    },
+    "flat": {"flatten": "(library, name)"},
+}
+METHODS = {
+    ("blocks", "Primitive"): {"parse": "(text)", "compute": "(self, values)"},
+    ("blocks", "Diagram"): {"parse": "(text)"},
+    ("library", "Library"): {
+        "__init__": "(self)", "parse": "(text)", "diagram": "(self, name)", "compiled": "(self, name)",
+        "build_order": "(self)", "draft": "(self)", "change": "(self, puts, drops)",
+    },
+    ("library", "Draft"): {
+        "put": "(self, diagram)", "drop": "(self, name)", "commit": "(self)", "close": "(self)",
+        "__enter__": "(self)",
+    },
+}
+PROPERTIES = {
+    ("blocks", "Primitive"): ["interface"], ("compiling", "Compiled"): ["interface"],
+    ("library", "Library"): ["names", "rebuilt"],
+}
+GENERATORS = {("library", "Library"): ["build_order"]}
+CLASS_METHODS = {("blocks", "Primitive"): ["parse"], ("blocks", "Diagram"): ["parse"], ("library", "Library"): ["parse"]}
+STATIC_METHODS = {}
+
+
+def module_of(name):
+    return importlib.import_module(f"stepblocks.{name}")
+
+
+class SignaturesTest(unittest.TestCase):
+    def test_functions(self):
+        for file, functions in FUNCTIONS.items():
+            for name, shown in functions.items():
+                found = getattr(module_of(file), name)
+                self.assertTrue(inspect.isfunction(found), name)
+                self.assertEqual((str(inspect.signature(found)), found.__module__), (shown, f"stepblocks.{file}"), name)
+
+    def test_methods(self):
+        for (file, kind), methods in METHODS.items():
+            found = getattr(module_of(file), kind)
+            self.assertEqual((found.__name__, found.__module__), (kind, f"stepblocks.{file}"))
+            for name, shown in methods.items():
+                self.assertIn(name, vars(found), kind)
+                self.assertEqual(str(inspect.signature(getattr(found, name))), shown, (kind, name))
+
+    def test_kinds_of_methods(self):
+        for kinds, wanted in ((PROPERTIES, property), (CLASS_METHODS, classmethod), (STATIC_METHODS, staticmethod)):
+            for (file, kind), names in kinds.items():
+                for name in names:
+                    self.assertIsInstance(vars(getattr(module_of(file), kind))[name], wanted, (kind, name))
+        for (file, kind), names in GENERATORS.items():
+            for name in names:
+                self.assertTrue(inspect.isgeneratorfunction(vars(getattr(module_of(file), kind))[name]), (kind, name))
+
+
+if __name__ == "__main__":
+    unittest.main()
