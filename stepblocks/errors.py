@@ -121,3 +121,48 @@ class BadState(BlockError):
 
 class OtherPorts(BlockError):
     """Two blocks or nets have not the same inputs, or not the same outputs."""
+
+
+class BadNet(BlockError):
+    """What is given makes no net, or one of too many parts."""
+
+
+class DelayRing(BlockError):
+    """A net has a cycle of wires through delays alone."""
+
+
+class BadMoves(BlockError):
+    """What is given is no good moves of the net."""
+
+
+class NotLinear(BlockError):
+    """A net is not linear: path is that of the first part that is not as in a linear net."""
+
+    def __init__(self, path):
+        self.path = path
+
+
+class BadRanges(BlockError):
+    """What is given is no ranges of the net."""
+
+
+class TooManyStates(BlockError):
+    """More states can be reached than are looked through."""
+
+
+class UnknownPart(BlockError):
+    """There is no part of this path that can be moved."""
+
+    def __init__(self, path):
+        self.path = path
+
+
+class NotGood(BlockError):
+    """The part cannot be moved ahead."""
+
+
+class UnknownMark(BlockError):
+    """There is no mark of this number."""
+
+    def __init__(self, number):
+        self.number = number

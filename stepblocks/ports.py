@@ -99,14 +99,14 @@ def cone(library, name, output):
     """Return a list of pairs (port, feeds) of all ports from which a path leads to an output."""
     befores = _graph_with(library, name, output)
     first = ((), output)
-    indexes = {first: 0}
+    listed = {first: True}
     found = [(first, -1)]
     done = 0
     while done < len(found):
         port, _ = found[done]
         for before in befores[port]:
-            if before not in indexes:
-                indexes[before] = len(found)
+            if before not in listed:
+                listed[before] = True
                 found.append((before, done))
         done += 1
     return found

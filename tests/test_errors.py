@@ -10,7 +10,9 @@ ATTRIBUTES = {
     "BadDiagram": ("name", "port", "reason"), "BadInterface": ("name",), "Cycle": ("name", "cycle"),
     "DraftClosed": (), "Stale": (), "LibraryFull": (), "TooLarge": ("count",), "WrongCount": ("count",),
     "UnknownPort": ("name",), "BadValue": ("name",), "Given": ("name",), "NotGiven": ("missing",),
-    "InstantOpen": (), "InstantClosed": (), "BadState": ("path",), "OtherPorts": (),
+    "InstantOpen": (), "InstantClosed": (), "BadState": ("path",), "OtherPorts": (), "BadNet": (), "DelayRing": (),
+    "BadMoves": (), "NotLinear": ("path",), "BadRanges": (), "TooManyStates": (), "UnknownPart": ("path",),
+    "NotGood": (), "UnknownMark": ("number",),
 }
 ODD_VALUES = (None, True, -1, 10 ** 5000, "", "a\nb", (), ("a", ("b",)), [1, [2]], {"a": 1})
 

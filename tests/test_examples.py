@@ -46,6 +46,50 @@ raises Cycle(name='loop', cycle=[('w', 0)])
 >>> [first, second, library.names]
 [('counter', 'user'), ('counter',), ('counter', 'user')]
 """,
+    r"""
+>>> from stepblocks.library import Library
+>>> from stepblocks.machine import Runner
+>>> text = "block counter(up; count total)\n  part old = delay 0\n  part sum = add\n  old.in <- sum.out\n  sum.a <- old.out\n  sum.b <- up\n  count <- old.out\n  total <- sum.out\nend"
+>>> runner = Runner(Library.parse(text), "counter")
+>>> first = runner.step(3)
+>>> second = runner.step_row([4])
+>>> [first, second, runner.state]
+[(0, 3), (3, 7), {('old',): 7}]
+""",
+    r"""
+>>> from stepblocks.library import Library
+>>> from stepblocks.machine import Runner
+>>> text = "block counter(up; count total)\n  part old = delay 0\n  part sum = add\n  old.in <- sum.out\n  sum.a <- old.out\n  sum.b <- up\n  count <- old.out\n  total <- sum.out\nend"
+>>> instant = Runner(Library.parse(text), "counter").begin()
+>>> count = instant.read("count")
+>>> ready = instant.ready
+>>> done = instant.give("up", 5)
+>>> [count, ready, instant.read("total"), instant.ready]
+[0, ('count',), 5, ('count', 'total')]
+""",
+    r"""
+>>> from stepblocks.library import Library
+>>> from stepblocks.surroundings import surrounding_for
+>>> text = "block counter(up; count total)\n  part old = delay 0\n  part sum = add\n  old.in <- sum.out\n  sum.a <- old.out\n  sum.b <- up\n  count <- old.out\n  total <- sum.out\nend"
+>>> str(surrounding_for(Library.parse(text), "counter", "total", "count", called="around"))
+'block around(; count total)\n  part inner = counter\n  inner.up <- inner.count\n  count <- inner.count\n  total <- inner.total\nend'
+""",
+    r"""
+>>> from stepblocks.nets import Net
+>>> total = (("sum",), "out")
+>>> wires = (((("old",), "in"), total), ((("sum",), "a"), (("old",), "out")), ((("sum",), "b"), ((), "up")), (((), "total"), total))
+>>> net = Net(("up",), ("total",), ((("old",), "delay 0"), (("sum",), "add")), wires)
+>>> [net([(3,), (4,)]), len(net), ("old",) in net]
+[[(3,), (7,)], 2, True]
+""",
+    r"""
+>>> from stepblocks.nets import Net
+>>> from stepblocks.readings import parting, walk_from
+>>> wires = (((("p",), "in"), ((), "x")), ((("q",), "in"), (("p",), "out")))
+>>> net = Net(("x",), (), ((("p",), "delay 1"), (("q",), "delay 1")), wires)
+>>> [parting(net, (("p",), "out"), net, (("q",), "out")), walk_from(net, (("q",), "out"), 2, [])]
+[(1, []), ([], ('input', 'x', 0))]
+""",
 ]
 
 

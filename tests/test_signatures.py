@@ -11,6 +11,16 @@ FUNCTIONS = {
         "cone": "(library, name, output)", "is_cone": "(library, name, output, value)",
     },
     "flat": {"flatten": "(library, name)"},
+    "surroundings": {
+        "surrounding_for": "(library, name, first, second, *, called)", "merged": "(interface, first, second)",
+        "can_replace": "(library, old, new)", "breaking": "(library, old, new, *, called)",
+        "replaced": "(diagram, old, new)",
+    },
+    "readings": {
+        "are_alike": "(net, source, other, second)", "closed_pairs": "(net, source, other, second)",
+        "is_closed": "(net, other, value)", "parting": "(net, source, other, second)",
+        "walk_from": "(net, source, instant, route)",
+    },
 }
 METHODS = {
     ("blocks", "Primitive"): {"parse": "(text)", "compute": "(self, values)"},
@@ -23,14 +33,27 @@ METHODS = {
         "put": "(self, diagram)", "drop": "(self, name)", "commit": "(self)", "close": "(self)",
         "__enter__": "(self)",
     },
+    ("machine", "Runner"): {
+        "__init__": "(self, library, name)", "begin": "(self)", "step": "(self, *values)",
+        "step_row": "(self, values)", "trace": "(self, rows)", "restore": "(self, state)", "move": "(self)",
+    },
+    ("machine", "Instant"): {
+        "give": "(self, name, value)", "give_all": "(self, **values)", "read": "(self, name)", "finish": "(self)",
+        "drop": "(self)", "table": "(self)", "__enter__": "(self)",
+    },
+    ("nets", "Net"): {
+        "__init__": "(self, inputs, outputs, parts, wires)", "__call__": "(self, history)", "of": "(library, name)",
+        "wide": "(inputs, outputs, parts, wires)",
+    },
 }
 PROPERTIES = {
     ("blocks", "Primitive"): ["interface"], ("compiling", "Compiled"): ["interface"],
-    ("library", "Library"): ["names", "rebuilt"],
+    ("library", "Library"): ["names", "rebuilt"], ("machine", "Runner"): ["state", "instant"],
+    ("machine", "Instant"): ["ready"],
 }
-GENERATORS = {("library", "Library"): ["build_order"]}
+GENERATORS = {("library", "Library"): ["build_order"], ("machine", "Runner"): ["trace"]}
 CLASS_METHODS = {("blocks", "Primitive"): ["parse"], ("blocks", "Diagram"): ["parse"], ("library", "Library"): ["parse"]}
-STATIC_METHODS = {}
+STATIC_METHODS = {("nets", "Net"): ["of", "wide"]}
 
 
 def module_of(name):
