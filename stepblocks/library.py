@@ -124,7 +124,7 @@ class Draft:
         return self
 
     def __exit__(self, *told):
-        self.close()
+        self.is_open = False
 
 
 def _read_diagrams(text, most):

@@ -201,4 +201,4 @@ class Instant:
         return self
 
     def __exit__(self, *told):
-        self.drop()
+        self.is_open = False

@@ -209,6 +209,65 @@ class StatementsTest(unittest.TestCase):
                 self.assertNotIn(node.name, METHODS)
 
 
+class ExitTest(unittest.TestCase):
+    """L6 With: the rows of __exit__, and of each method of a name that an __exit__ calls on self."""
+
+    def setUp(self):
+        self.methods = {}
+        for _, tree in trees():
+            for node in ast.walk(tree):
+                if isinstance(node, ast.ClassDef):
+                    for inner in node.body:
+                        if isinstance(inner, ast.FunctionDef):
+                            self.methods.setdefault(inner.name, []).append(inner)
+
+    def is_simple(self, node):
+        """Tell whether a node is a value of an object, a local, a written value, or put together of such."""
+        if isinstance(node, (ast.Tuple, ast.List)):
+            return all(self.is_simple(inner) for inner in node.elts)
+        if isinstance(node, ast.BinOp):
+            right = isinstance(node.op, ast.Add) and self.is_simple(node.right) or isinstance(node.op, ast.Sub) \
+                and isinstance(node.right, ast.Constant)
+            return self.is_simple(node.left) and right
+        return isinstance(node, (ast.Name, ast.Constant)) or (
+            isinstance(node, ast.Attribute) and isinstance(node.value, ast.Name))
+
+    def is_row(self, node, called):
+        if isinstance(node, ast.Pass):
+            return True
+        if isinstance(node, ast.Return):
+            return node.value is None or isinstance(node.value, ast.Constant) and node.value.value in (None, False)
+        if isinstance(node, ast.Assign):
+            return all(isinstance(target, (ast.Attribute, ast.Name)) for target in node.targets) and \
+                self.is_simple(node.value)
+        if isinstance(node, ast.AugAssign):
+            return isinstance(node.target, ast.Attribute) and isinstance(node.value, ast.Constant)
+        if isinstance(node, ast.If):
+            return all(self.is_row(inner, called) for inner in node.body + node.orelse)
+        if isinstance(node, ast.Expr) and isinstance(node.value, ast.Call):
+            call = node.value
+            if not isinstance(call.func, ast.Attribute):
+                return False
+            if isinstance(call.func.value, ast.Name) and call.func.value.id == "self" and not call.args:
+                called.append(call.func.attr)
+                return True
+            return call.func.attr in ("append", "clear") and all(self.is_simple(given) for given in call.args)
+        return isinstance(node, ast.Expr) and isinstance(node.value, ast.Constant)
+
+    def test_rows_of_exit(self):
+        self.assertGreater(len(self.methods["__exit__"]), 1)
+        done, left = set(), ["__exit__"]
+        while left:
+            name = left.pop()
+            if name not in done:
+                done.add(name)
+                for method in self.methods[name]:
+                    for node in method.body:
+                        self.assertTrue(self.is_row(node, left), (name, method.lineno, ast.unparse(node)))
+                    if name != "__exit__":
+                        self.assertEqual([arg.arg for arg in method.args.args], ["self"], (name, method.lineno))
+
+
 def is_property(node):
     return isinstance(node, ast.FunctionDef) and [ast.unparse(one) for one in node.decorator_list] == ["property"]
 

@@ -515,6 +515,29 @@ class InstantTest(MachineCase):
                 raise KeyError("x")
         self.assertIs(instant.is_open, False)
 
+    def test_leaving_with_drops_the_instant(self):
+        self.instant.drop()
+        for fails in (False, True):
+            instant = self.runner.begin()
+            try:
+                with instant:
+                    instant.give_all(a=1, b=50, c=3)
+                    self.assertEqual(instant.read("u"), 46)
+                    if fails:
+                        raise KeyError("x")
+            except KeyError:
+                self.assertTrue(fails)
+            self.assertEqual((instant.is_open, instant.ready, self.runner.instant), (False, (), None))
+            self.assertEqual(self.runner.state, {("d",): 4})
+            for call in (instant.finish, instant.table, lambda: instant.give("a", 1), lambda: instant.read("t")):
+                self.assertRaises(InstantClosed, call)
+            self.assertIsNone(instant.drop())
+        # An instant that was finished within it stays finished.
+        with self.runner.begin() as instant:
+            instant.give_all(a=1, b=20, c=3)
+            instant.finish()
+        self.assertEqual(self.runner.state, {("d",): 16})
+
     def test_an_output_fed_back_to_an_input_it_does_not_need(self):
         runner = Runner(library_of(COUNTER), "counter")
         runner.restore({("old",): 5})
