@@ -5,26 +5,13 @@ import random
 import unittest
 
 import netcheck
+from netkit import RaisedCase, net_of, out, x
 from samples import COUNTER, ODD_VALUES, deep_value, library_of, variants
-from stepblocks.errors import BlockError, OtherPorts, UnknownPort
+from stepblocks.errors import OtherPorts, UnknownPort
 from stepblocks.nets import Net
 from stepblocks.readings import are_alike, closed_pairs, is_closed, parting, walk_from
 
 WORDS = ("const 0", "const 1", "add", "add", "sub", "divide", "delay 0", "delay 0", "delay 1")
-
-
-def out(name, port="out"):
-    return ((name,), port)
-
-
-def x(name="x"):
-    return ((), name)
-
-
-def net_of(inputs, parts, wires):
-    """Return a net without outputs: parts are a dict from names to texts, wires one from PART.PORT to sources."""
-    listed = tuple(((tuple([target.split(".")[0]]), target.split(".")[1]), source) for target, source in wires.items())
-    return Net.wide(tuple(inputs), (), tuple(((name,), text) for name, text in parts.items()), listed)
 
 
 def ring(many, first="delay 1", other="delay 0", name="d"):
@@ -34,7 +21,7 @@ def ring(many, first="delay 1", other="delay 0", name="d"):
     return net_of("", parts, {f"{names[k]}.in": out(names[(k + 1) % many]) for k in range(many)})
 
 
-class ReadingCase(unittest.TestCase):
+class ReadingCase(RaisedCase):
     def check(self, net, source, other, second, alike):
         """Check all that is told of two sources."""
         self.assertIs(are_alike(net, source, other, second), alike)
@@ -57,12 +44,6 @@ class ReadingCase(unittest.TestCase):
         self.assertEqual(one[0], two[0])
         self.assertNotEqual(one[1], two[1])
         return told
-
-    def raised(self, kind, call, *args):
-        with self.assertRaises(kind) as caught:
-            call(*args)
-        self.assertIsInstance(caught.exception, BlockError)
-        return vars(caught.exception)
 
 
 class FormsTest(ReadingCase):
