@@ -1,7 +1,7 @@
 """Primitives and the wires between them, computed instant by instant (points 14 and 15)."""
 
 from stepblocks.blocks import Primitive
-from stepblocks.errors import BadValue, WrongCount
+from stepblocks.errors import BadState, BadValue, WrongCount
 from stepblocks.graphs import sort_nodes
 from stepblocks.texts import is_value
 
@@ -13,6 +13,16 @@ def check_row(inputs, row):
     for name, value in zip(inputs, row):
         if not is_value(value):
             raise BadValue(name)
+
+
+def check_state(first_values, state):
+    """Raise BadState if a dict is not a value for each of the delays that have these first values."""
+    for path in first_values:
+        if path not in state:
+            raise BadState(path)
+    for path in state:
+        if path not in first_values or not is_value(state[path]):
+            raise BadState(path)
 
 
 def order_parts(blocks, wires):

@@ -1,8 +1,8 @@
 """Runners, which run a diagram instant by instant (points 14 to 16)."""
 
-from stepblocks.circuits import Circuit, check_row
+from stepblocks.circuits import Circuit, check_row, check_state
 from stepblocks.compiling import needs_by_output
-from stepblocks.errors import BadState, BadValue, Given, InstantClosed, InstantOpen, NotGiven, UnknownPort
+from stepblocks.errors import BadValue, Given, InstantClosed, InstantOpen, NotGiven, UnknownPort
 from stepblocks.flat import flatten
 from stepblocks.graphs import sort_nodes
 from stepblocks.ports import port_graph
@@ -86,12 +86,7 @@ class Runner:
     def restore(self, state):
         """Give all delays the values of a dict."""
         self._check_no_instant()
-        for path in self._held:
-            if path not in state:
-                raise BadState(path)
-        for path in state:
-            if path not in self._held or not is_value(state[path]):
-                raise BadState(path)
+        check_state(self._held, state)
         # The order stays that of the delays, whatever that of the dict is.
         self._held = {path: state[path] for path in self._held}
 

@@ -1,4 +1,4 @@
-"""The examples of the document for what has landed, as they stand there."""
+"""The examples of the document, as they stand there."""
 
 import unittest
 
@@ -89,6 +89,72 @@ raises Cycle(name='loop', cycle=[('w', 0)])
 >>> net = Net(("x",), (), ((("p",), "delay 1"), (("q",), "delay 1")), wires)
 >>> [parting(net, (("p",), "out"), net, (("q",), "out")), walk_from(net, (("q",), "out"), 2, [])]
 [(1, []), ([], ('input', 'x', 0))]
+""",
+    r"""
+>>> from stepblocks.least import least_net, needed_parts, part_classes
+>>> from stepblocks.nets import Net
+>>> wires = (((("p",), "in"), (("k",), "out")), ((("q",), "in"), (("q",), "out")), (((), "o"), (("p",), "out")))
+>>> net = Net((), ("o",), ((("k",), "const 2"), (("p",), "delay 2"), (("q",), "delay 3")), wires)
+>>> [part_classes(net), needed_parts(net), len(least_net(net))]
+[[[('k',), ('p',)], [('q',)]], [('p',)], 1]
+""",
+    r"""
+>>> from stepblocks.lines import line_of, moved_net
+>>> from stepblocks.nets import Net
+>>> wires = (((("d",), "in"), ((), "x")), ((("s",), "a"), (("d",), "out")), ((("s",), "b"), (("k",), "out")), (((), "o"), (("s",), "out")))
+>>> net = Net(("x",), ("o",), ((("d",), "delay 3"), (("k",), "const 4"), (("s",), "add")), wires)
+>>> moved = moved_net(net, {("s",): 1})
+>>> [line_of(net, (("s",), "a")), line_of(moved, (("s",), "a")), line_of(moved, ((), "o"))]
+[(((), 'x'), [3]), (((), 'x'), []), ((('s',), 'out'), [7])]
+""",
+    r"""
+>>> from stepblocks.nets import Net
+>>> from stepblocks.periods import is_bar, least_moves, least_period, period
+>>> d, m, s = (("d",), "out"), (("m",), "out"), (("s",), "out")
+>>> wires = (((("d",), "in"), ((), "x")), ((("m",), "a"), d), ((("m",), "b"), d), ((("s",), "a"), m), ((("s",), "b"), d), (((), "o"), s))
+>>> net = Net(("x",), ("o",), ((("d",), "delay 0"), (("m",), "mul"), (("s",), "add")), wires)
+>>> costs = {"add": 1, "sub": 1, "mul": 5, "less": 1, "equal": 1, "pick": 1, "divide": 9}
+>>> [period(net, costs=costs), least_period(net, costs=costs), sorted(least_moves(net, costs=costs, bound=5).items()), is_bar(net, [(m, ())], costs=costs, bound=4)]
+[6, 5, [(('m',), 1), (('s',), 0)], True]
+""",
+    r"""
+>>> from stepblocks.counts import count_delays, fewest_delays, shown_by
+>>> from stepblocks.nets import Net
+>>> d, m, s = (("d",), "out"), (("m",), "out"), (("s",), "out")
+>>> wires = (((("d",), "in"), ((), "x")), ((("m",), "a"), d), ((("m",), "b"), d), ((("s",), "a"), m), ((("s",), "b"), d), (((), "o"), s))
+>>> net = Net(("x",), ("o",), ((("d",), "delay 0"), (("m",), "mul"), (("s",), "add")), wires)
+>>> costs = {"add": 1, "sub": 1, "mul": 5, "less": 1, "equal": 1, "pick": 1, "divide": 9}
+>>> found = [count_delays(net)] + [sorted(fewest_delays(net, costs=costs, bound=bound).items()) for bound in (6, 5)]
+>>> found + [shown_by(net, [(2, (((), "x"), ((("m",), "a"),))), (1, (m, ((("s",), "a"),)))], costs=costs, bound=5)]
+[3, [(('m',), 1), (('s',), 1)], [(('m',), 1), (('s',), 0)], 2]
+""",
+    r"""
+>>> from stepblocks.linear import first_history, state_at
+>>> from stepblocks.nets import Net
+>>> total = (("sum",), "out")
+>>> wires = (((("old",), "in"), total), ((("sum",), "a"), (("old",), "out")), ((("sum",), "b"), ((), "up")), (((), "total"), total))
+>>> net = Net(("up",), ("total",), ((("old",), "delay 0"), (("sum",), "add")), wires)
+>>> other = Net(("up",), ("total",), ((("old",), "delay 1"), (("sum",), "add")), wires)
+>>> [len(first_history(net, other)), state_at(net, (3,), 10**9)]
+[1, {('old',): 3000000000}]
+""",
+    r"""
+>>> from stepblocks.nets import Net
+>>> from stepblocks.small import history_to, least_machine
+>>> wires = (((("t",), "in"), (("n",), "out")), ((("n",), "a"), (("t",), "out")), ((("n",), "b"), ((), "x")), (((), "o"), (("n",), "out")))
+>>> net = Net(("x",), ("o",), ((("t",), "delay 0"), (("n",), "equal")), wires)
+>>> [history_to(net, {"x": [0, 1]}, "o", [0]), least_machine(net, {"x": [0, 1]})]
+[[(1,)], [[((1,), 1), ((0,), 0)], [((0,), 0), ((1,), 1)]]]
+""",
+    r"""
+>>> from stepblocks.netruns import NetRun
+>>> from stepblocks.nets import Net
+>>> wires = (((("d",), "in"), ((), "x")), ((("s",), "a"), (("d",), "out")), ((("s",), "b"), (("k",), "out")), (((), "o"), (("s",), "out")))
+>>> run = NetRun(Net(("x",), ("o",), ((("d",), "delay 3"), (("k",), "const 4"), (("s",), "add")), wires))
+>>> first = run.go((5,))
+>>> run.lead(("s",))
+>>> [first, run.go((6,)), run.leads()]
+[(7,), (9,), {('s',): 1}]
 """,
 ]
 

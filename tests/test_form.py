@@ -177,7 +177,8 @@ class StatementsTest(unittest.TestCase):
                   "Draft": {"put", "drop", "commit", "close", "__enter__", "__exit__"},
                   "Runner": {"__init__", "state", "instant", "begin", "step", "step_row", "trace", "restore", "move"},
                   "Instant": {"ready", "give", "give_all", "read", "finish", "drop", "table", "__enter__", "__exit__"},
-                  "Net": {"__init__", "__eq__", "__len__", "__contains__", "__call__", "of", "wide"}}
+                  "Net": {"__init__", "__eq__", "__len__", "__contains__", "__call__", "of", "wide"},
+                  "NetRun": {"__init__", "now", "go", "lead", "leads", "shrink", "mark", "back"}}
         for _, tree in trees():
             for node in tree.body:
                 if isinstance(node, ast.ClassDef) and node.name in listed:

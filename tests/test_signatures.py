@@ -21,6 +21,25 @@ FUNCTIONS = {
         "is_closed": "(net, other, value)", "parting": "(net, source, other, second)",
         "walk_from": "(net, source, instant, route)",
     },
+    "least": {"part_classes": "(net)", "needed_parts": "(net)", "least_net": "(net)"},
+    "lines": {"line_of": "(net, target)", "are_good": "(net, value)", "moved_net": "(net, moves)"},
+    "periods": {
+        "period": "(net, *, costs)", "slowest": "(net, *, costs)", "least_moves": "(net, *, costs, bound)",
+        "bar_for": "(net, *, costs, bound)", "is_bar": "(net, value, *, costs, bound)",
+        "least_period": "(net, *, costs)",
+    },
+    "counts": {
+        "count_delays": "(net)", "fewest_delays": "(net, *, costs, bound)", "shares_for": "(net, *, costs, bound)",
+        "shown_by": "(net, value, *, costs, bound)",
+    },
+    "linear": {
+        "first_history": "(net, other)", "state_at": "(net, row, instant)", "told_apart": "(net, state, second)",
+    },
+    "small": {
+        "rows_of": "(net, ranges)", "reached_states": "(net, ranges)",
+        "history_to": "(net, ranges, output, values)", "history_apart": "(net, other, ranges)",
+        "least_machine": "(net, ranges)",
+    },
 }
 METHODS = {
     ("blocks", "Primitive"): {"parse": "(text)", "compute": "(self, values)"},
@@ -44,6 +63,10 @@ METHODS = {
     ("nets", "Net"): {
         "__init__": "(self, inputs, outputs, parts, wires)", "__call__": "(self, history)", "of": "(library, name)",
         "wide": "(inputs, outputs, parts, wires)",
+    },
+    ("netruns", "NetRun"): {
+        "__init__": "(self, net)", "now": "(self)", "go": "(self, row)", "lead": "(self, path)", "leads": "(self)",
+        "shrink": "(self)", "mark": "(self)", "back": "(self, number)",
     },
 }
 PROPERTIES = {
