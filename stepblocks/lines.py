@@ -44,8 +44,8 @@ def _is_number_of_moves(value):
 
 
 def _width_after(lines, moves, target):
-    """Return the number of the delays of a line when the parts are moved; its head is not the output of a const."""
-    # Inputs and outputs of the net are not moved.
+    """Return the number of the delays that a line has when the parts are moved, or less than 0."""
+    # Consts, and inputs and outputs of the net, are not moved.
     moved = moves.get(lines.heads[target][0], 0) - moves.get(target[0], 0)
     return lines.widths[target] + moved
 
@@ -79,9 +79,8 @@ def _move_lines(net, lines, moves):
     rows = {}
     for target in lines.heads:
         start = moves.get(target[0], 0)
-        many = max(0, lines.widths[target] - start)
-        if lines.constant_at(target) is None:
-            many = _width_after(lines, moves, target)
+        # Less than no delays are left only where the line begins at a const: then it has none.
+        many = max(0, _width_after(lines, moves, target))
         rows[target] = [first.value_at(target, start + k) for k in range(many)]
     return rows
 

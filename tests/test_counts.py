@@ -168,6 +168,16 @@ class FewestTest(CountsCase):
                     moved += any(moves.values())
         self.assertGreater(moved, 8)
 
+    def test_nets_of_all_sizes(self):
+        chance = random.Random(94)
+        for _ in range(120):
+            net = wide_net(chance, chance.randrange(3, 30), chance.randrange(30))
+            costs = {word: chance.randrange(6) for word in RULES}
+            least = least_period(net, costs=costs)
+            for bound in (least, least + 1, least + 3, 10 ** 6):
+                moves, shares = [call(net, costs=costs, bound=bound) for call in (fewest_delays, shares_for)]
+                self.assertEqual(shown_by(net, shares, costs=costs, bound=bound), count_moved(net, moves))
+
     def test_many_delays_on_one_line(self):
         net = pipeline(["add"] * 8, [40] + [0] * 8)
         self.assertEqual(set(self.check(net, COSTS, 8).values()), {40})
@@ -208,6 +218,18 @@ class SharesTest(CountsCase):
                 self.assertIsNone(shown_by(net, value, costs=COSTS, bound=5), value)
             self.assertEqual(shown_by(net, value, costs=COSTS, bound=5),
                              movecheck.judge_shares(net, value, COSTS, 5), value)
+
+    def test_right_shares_and_odd_ones(self):
+        net = document_net()
+        into, onto = (x(), ((("m",), "a"),)), (out("m"), ((("s",), "a"),))
+        right = [(2, into), (1, onto)]
+        for more, expected in (([], 2), ([(1, (out("m"), ()))], 2), ([(7, (out("s"), ()))], 2), ([(0, into)], None),
+                               ([(-1, (out("s"), ()))], None), ([(True, (out("s"), ()))], None), ([(1, (x(), ()))], None),
+                               ([[1, (out("s"), ())]], None), ([(1, [out("s"), ()])], None), ([(1, (out("s"), []))], None),
+                               ([(1, (out("d"), ()))], None), ([(1, (out("s", "a"), ()))], None), ([None], None)):
+            for value in (right + more, more + right):
+                self.assertEqual(shown_by(net, value, costs=COSTS, bound=5), expected, more)
+                self.assertEqual(movecheck.judge_shares(net, value, COSTS, 5), expected, more)
 
     def test_variants_of_shares(self):
         judged = {True: 0, False: 0}

@@ -154,6 +154,14 @@ class NotLinearTest(LinearCase):
                          lambda: told_apart(net, {}, {})):
                 self.assertEqual(self.raised(NotLinear, call), {"path": ("p",)})
 
+    def test_consts_make_no_other_word_linear(self):
+        for word in ("less", "equal", "pick", "divide"):
+            ports = movecheck.PORTS[word]
+            for consts in itertools.product((False, True), repeat=len(ports[0])):
+                net = net_of("x", {"k": "const 1", "p": word}, {
+                    f"p.{port}": out("k") if const else x() for port, const in zip(ports[0], consts)})
+                self.assertEqual(self.raised(NotLinear, state_at, net, (1,), 0), {"path": ("p",)})
+
     def test_muls_by_consts(self):
         parts = {"k": "const 3", "d": "delay 3", "m": "mul", "n": "mul", "q": "mul"}
         wires = {"d.in": out("k"), "m.a": out("k"), "m.b": x(), "n.a": x(), "n.b": out("k"), "q.a": out("k"),
